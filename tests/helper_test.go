@@ -19,3 +19,10 @@ func someBytes(seed int64, n int) string {
 	rand.New(rand.NewSource(seed)).Read(out)
 	return string(out)
 }
+
+// changed returns the string with the bits of mask inverted in the byte at an offset.
+func changed(text string, at int, mask byte) string {
+	out := []byte(text)
+	out[at] ^= mask
+	return string(out)
+}

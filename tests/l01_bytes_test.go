@@ -286,12 +286,6 @@ func TestPromise2SealedIsRecovered(t *testing.T) {
 	}
 }
 
-func changed(text string, at int, mask byte) string {
-	out := []byte(text)
-	out[at] ^= mask
-	return string(out)
-}
-
 func TestPromise2ChangedIsRejected(t *testing.T) {
 	bad := impl.TextOut{Code: impl.ErrSum}
 	for _, text := range []string{"", "a", "ab", "\x00\x00\x00\x00", "a sealed string", someBytes(9, 64)} {
