@@ -59,6 +59,10 @@ func tooLong(text string) bool {
 	return len(text) > MaxBytes
 }
 
+func isTime(n int64) bool {
+	return n >= 0 && n <= MaxTime
+}
+
 func joined(a string, b string) string {
 	out := make([]byte, len(a)+len(b))
 	n := copy(out, a)
