@@ -50,6 +50,13 @@ func numsText(nums []int64) string {
 	return string(out)
 }
 
+// otherCodes returns texts that could be taken for the encoding of a number and are not: longer than necessary, without an end, beyond 64 bits, or missing.
+func otherCodes(n int64) []string {
+	code := numsText([]int64{n})
+	longer := changed(code, len(code)-1, 128)
+	return []string{longer + "\x00", longer + "\x80\x00", longer, strings.Repeat("\xff", 10), strings.Repeat("\x80", 9) + "\x02", ""}
+}
+
 func routeText(r impl.Route) string {
 	return numsText(numsOfRoute(r))
 }
@@ -219,9 +226,7 @@ func TestRouteReadNumbersEncodedOtherwise(t *testing.T) {
 		nums := numsOfRoute(r)
 		for i, n := range nums {
 			before, after := numsText(nums[:i]), numsText(nums[i+1:])
-			code := numsText([]int64{n})
-			longer := changed(code, len(code)-1, 128)
-			for _, other := range []string{longer + "\x00", longer + "\x80\x00", longer, strings.Repeat("\xff", 10), strings.Repeat("\x80", 9) + "\x02", ""} {
+			for _, other := range otherCodes(n) {
 				same(t, fmt.Sprintf("%v with number %d as %x", nums, i, other), impl.RouteRead(before+other+after), notARoute())
 			}
 		}
