@@ -141,6 +141,30 @@ func GetNum(text string, at int64) NumOut {
 	return NumOut{N: unzigzag(u), At: end}
 }
 
+// putNums returns the encodings of numbers, one behind the other.
+func putNums(nums []int64) string {
+	text := ""
+	for _, n := range nums {
+		text = joined(text, PutNum(n))
+	}
+	return text
+}
+
+// getNums decodes the first numbers of a text, and returns them and the offset behind them, or false if there are fewer.
+func getNums(text string, count int) ([]int64, int64, bool) {
+	var nums []int64
+	at := int64(0)
+	for range count {
+		next := GetNum(text, at)
+		if next.Code != OK {
+			return nil, 0, false
+		}
+		nums = append(nums, next.N)
+		at = next.At
+	}
+	return nums, at, true
+}
+
 // PutText returns a string behind its length, see chapter 2.
 func PutText(t string) string {
 	if tooLong(t) {
