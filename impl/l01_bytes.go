@@ -59,6 +59,17 @@ func tooLong(text string) bool {
 	return len(text) > MaxBytes
 }
 
+// listFault returns the code of what is wrong with a list, which right reports to be valid or not, or OK.
+func listFault[T any](l []T, right func(l []T) bool) int64 {
+	if len(l) > MaxList {
+		return ErrSize
+	}
+	if !right(l) {
+		return ErrForm
+	}
+	return OK
+}
+
 func isTime(n int64) bool {
 	return n >= 0 && n <= MaxTime
 }
