@@ -70,6 +70,19 @@ func listFault[T any](l []T, right func(l []T) bool) int64 {
 	return OK
 }
 
+// listRight reports whether a list has at most so many elements, all of them right and each greater than the one before it.
+func listRight[T any](l []T, most int, right func(x T) bool, compare func(a T, b T) int) bool {
+	if len(l) > most {
+		return false
+	}
+	for i, x := range l {
+		if !right(x) || i > 0 && compare(l[i-1], x) >= 0 {
+			return false
+		}
+	}
+	return true
+}
+
 func isTime(n int64) bool {
 	return n >= 0 && n <= MaxTime
 }
